@@ -52,16 +52,18 @@ type herd struct {
 }
 
 func herdOf(trees []tree) herd {
-	table := func(holds func(p, x tree) bool) [][]bool {
-		rows := make([][]bool, len(trees))
-		for i, p := range trees {
-			for _, x := range trees {
-				rows[i] = append(rows[i], holds(p, x))
-			}
+	return herd{trees, tableOf(trees, trees, tree.isAround), tableOf(trees, trees, tree.isAbove), tableOf(trees, trees, tree.isVariant)}
+}
+
+// tableOf tells for each of ps and each of xs whether the two are so related.
+func tableOf(ps, xs []tree, holds func(p, x tree) bool) [][]bool {
+	rows := make([][]bool, len(ps))
+	for i, p := range ps {
+		for _, x := range xs {
+			rows[i] = append(rows[i], holds(p, x))
 		}
-		return rows
 	}
-	return herd{trees, table(tree.isAround), table(tree.isAbove), table(tree.isVariant)}
+	return rows
 }
 
 // notations returns the terms of a list of members of the herd.

@@ -300,11 +300,15 @@ func TestUnifiedUpToTheLimit(t *testing.T) {
 			t.Fatal(size, s, is)
 		}
 	}
-	// The replacement of x0 would be too long by the later one of x23.
-	for size := 1; size <= 40; size++ {
-		a, b := onTwo(variable(0), variable(23)).notation(), slices.Concat([]int64{0}, comb(19), nested(size))
-		if got := checkUnified(t, abc(), a, b); got != (1+18+2*size <= 60) {
-			t.Fatal(size, got)
+	// What replaces x0 at first, f0(x1,x1), is short, but not what x1 makes of it:
+	// from 30 on, it is too long by itself.
+	for size := 1; size <= 56; size++ {
+		a, b := []int64{0, -1, -2}, slices.Concat([]int64{0, 0, -2, -2}, nested(size))
+		for _, pair := range [][2][]int64{{a, b}, {b, a}} {
+			s, is := impl.Unified(abc(), pair[0], pair[1])
+			if is != (2+3*size <= 60) || is && !equalTerms(s.Terms, [][]int64{twice(nested(size)), nested(size)}) || !is && len(s.Terms) != 0 {
+				t.Fatal(size, s, is)
+			}
 		}
 	}
 }

@@ -35,11 +35,16 @@ func substGuardOf(s impl.Subst) substGuard {
 func (g substGuard) touched() bool {
 	whole := g.s.Terms[:len(g.before)]
 	for i, term := range g.terms {
-		if term.touched() || len(whole[i]) != len(g.before[i]) || len(whole[i]) > 0 && &whole[i][0] != &g.before[i][0] {
+		if term.touched() || !isOneSlice(whole[i], g.before[i]) {
 			return true
 		}
 	}
 	return false
+}
+
+// isOneSlice reports whether a and b are the same memory.
+func isOneSlice(a, b []int64) bool {
+	return len(a) == len(b) && (len(a) == 0 || &a[0] == &b[0])
 }
 
 func cloneOf(s impl.Subst) impl.Subst {

@@ -158,6 +158,14 @@ func longBooks() []book {
 	}
 }
 
+// anyBook returns one of the long books or a system of any rules.
+func (m maker) anyBook() book {
+	if m.IntN(2) == 0 {
+		return longBooks()[m.IntN(len(longBooks()))]
+	}
+	return m.book()
+}
+
 // bed returns a tree of about the given size with instances of left sides in
 // it. It is never too large for a term.
 func (m maker) bed(b book, size int64) tree {

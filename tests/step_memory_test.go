@@ -53,9 +53,9 @@ func slicesOfWalk(w impl.Walk) [][]int64 {
 	return found
 }
 
-// A stepCall is a function of chapter 7 on the arguments that the tests vary. A
-// term that it returns is given as the first one of a walk, and steps as those
-// of a walk.
+// A stepCall is a function on the arguments that the tests vary. A slice of
+// numbers that it returns is given as the first term of a walk, and steps as
+// those of a walk.
 type stepCall struct {
 	name string
 	run  func(a stepArgs) impl.Walk
@@ -63,11 +63,12 @@ type stepCall struct {
 
 // The arguments of a stepCall, valid or not.
 type stepArgs struct {
-	sys      impl.System
-	t        []int64
-	at, rule int64
-	w, v     impl.Walk
-	s        impl.Subst
+	sys            impl.System
+	t              []int64
+	at, rule       int64
+	w, v           impl.Walk
+	s              impl.Subst
+	strategy, fuel int64
 }
 
 func stepCalls() []stepCall {
@@ -141,14 +142,17 @@ func TestStepSamplesHaveResults(t *testing.T) {
 	}
 }
 
-func TestStepArgumentsAreNotModified(t *testing.T) {
-	for _, c := range stepCalls() {
-		for i, x := range stepSamples() {
+// checkStepArgumentsAreKept checks that no call modifies an argument, and none
+// returns memory of one or depends on what is behind its length.
+func checkStepArgumentsAreKept(t *testing.T, calls []stepCall, samples []stepArgs) {
+	t.Helper()
+	for _, c := range calls {
+		for i, x := range samples {
 			sys, term, w, v, s := systemGuardOf(x.sys), guardOf(x.t), walkGuardOf(x.w), walkGuardOf(x.v), substGuardOf(x.s)
 			touched := func() bool {
 				return sys.touched() || term.touched() || w.touched() || v.touched() || s.touched()
 			}
-			result := c.run(stepArgs{sys.sys, term.nums, x.at, x.rule, w.w, v.w, s.s})
+			result := c.run(stepArgs{sys.sys, term.nums, x.at, x.rule, w.w, v.w, s.s, x.strategy, x.fuel})
 			if touched() {
 				t.Fatalf("%s modifies an argument: sample %d", c.name, i)
 			}
@@ -163,9 +167,11 @@ func TestStepArgumentsAreNotModified(t *testing.T) {
 	}
 }
 
-func TestStepResultsAreNew(t *testing.T) {
-	for _, c := range stepCalls() {
-		for i, x := range stepSamples() {
+// checkStepResultsAreNew checks that no result is kept and returned again.
+func checkStepResultsAreNew(t *testing.T, calls []stepCall, samples []stepArgs) {
+	t.Helper()
+	for _, c := range calls {
+		for i, x := range samples {
 			first := c.run(x)
 			kept := cloneWalk(first)
 			overwriteWalk(c.run(x))
@@ -179,6 +185,12 @@ func TestStepResultsAreNew(t *testing.T) {
 		}
 	}
 }
+
+func TestStepArgumentsAreNotModified(t *testing.T) {
+	checkStepArgumentsAreKept(t, stepCalls(), stepSamples())
+}
+
+func TestStepResultsAreNew(t *testing.T) { checkStepResultsAreNew(t, stepCalls(), stepSamples()) }
 
 // checkSlicesApart checks that the terms of one result share no memory, nor what
 // is behind their lengths.

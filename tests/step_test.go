@@ -228,11 +228,8 @@ func TestBoundVariables(t *testing.T) {
 
 func TestStepsOfLongTerms(t *testing.T) {
 	m, steps, tooLong, rules := makerOf(9), 0, 0, map[int64]int{}
-	for i := range 600 {
-		b := m.book()
-		if i%2 == 0 {
-			b = longBooks()[m.IntN(len(longBooks()))]
-		}
+	for range 600 {
+		b := m.anyBook()
 		x := m.bed(b, 1+m.Int64N(impl.MaxTerm))
 		checkSteps(t, b, x)
 		for _, y := range b.moves(x) {

@@ -137,8 +137,11 @@ func booksOf(sig impl.Sig, rulings []ruling, most int) []book {
 }
 
 // ruling returns a rule, mostly with long sides.
-func (m maker) ruling(sig impl.Sig) ruling {
-	x := ruling{l: m.tree(sig, 2+m.Int64N(20)), r: m.tree(sig, 1+m.Int64N(20))}
+func (m maker) ruling(sig impl.Sig) ruling { return m.rulingOf(sig, m.tree(sig, 2+m.Int64N(20))) }
+
+// rulingOf returns a rule with this left side.
+func (m maker) rulingOf(sig impl.Sig, l tree) ruling {
+	x := ruling{l: l, r: m.tree(sig, 1+m.Int64N(20))}
 	if len(x.l.vars()) == 0 {
 		return ruling{x.l, x.l}
 	}

@@ -102,7 +102,18 @@ func stepSamples() []stepArgs {
 		}
 		found = append(found, x)
 	}
-	valid := found[1]
+	return append(found, spoiled(found[1],
+		func(x *stepArgs, nums []int64) { x.t = nums },
+		func(x *stepArgs, nums []int64) { x.w.From = nums },
+		func(x *stepArgs, nums []int64) { x.s = substOf([]int64{2}, nums) },
+		func(x *stepArgs, nums []int64) { x.w.Steps = append(ended().Steps[:2], impl.Step{At: 1, To: nums}) },
+	)...)
+}
+
+// spoiled returns arguments of which one is not valid: the system, or what one of
+// the functions in turn makes of a slice that is no term.
+func spoiled(valid stepArgs, spoil ...func(x *stepArgs, nums []int64)) []stepArgs {
+	var found []stepArgs
 	for i, x := range badSystems() {
 		if len(x.sys.Rules) <= 13 && i%4 == 0 {
 			bad := valid
@@ -112,16 +123,7 @@ func stepSamples() []stepArgs {
 	}
 	for i, x := range noTerms() {
 		bad := valid
-		switch i % 4 {
-		case 0:
-			bad.t = x.nums
-		case 1:
-			bad.w.From = x.nums
-		case 2:
-			bad.s = substOf([]int64{2}, x.nums)
-		case 3:
-			bad.w.Steps = append(ended().Steps[:2], impl.Step{At: 1, To: x.nums})
-		}
+		spoil[i%len(spoil)](&bad, x.nums)
 		found = append(found, bad)
 	}
 	return found

@@ -122,22 +122,26 @@ func TestTermsOfPeaksAreApart(t *testing.T) {
 	}
 }
 
+// overwritePeaks changes all the memory that a list of peaks reaches.
+func overwritePeaks(list []impl.Peak) {
+	whole := list[:cap(list)]
+	for i := range whole {
+		overwriteWalk(walkOfPeak(whole[i]))
+		whole[i] = impl.Peak{Top: []int64{-8888}, At: -7777}
+	}
+}
+
 // The list of peaks is new too, with what is behind its length.
 func TestListsOfPeaksAreNew(t *testing.T) {
 	for i, x := range peakSamples() {
 		peaks, is := impl.PeaksOf(x.sys)
 		roots := impl.RootPeaks(x.sys)
 		kept := [2]impl.Walk{cloneWalk(walkOfPeaks(peaks)), cloneWalk(walkOfPeaks(roots))}
-		for _, list := range [][]impl.Peak{roots, peaks} {
-			if !equalWalks(walkOfPeaks(peaks), kept[0]) {
-				t.Fatalf("PeaksOf and RootPeaks share memory: sample %d", i)
-			}
-			whole := list[:cap(list)]
-			for j := range whole {
-				overwriteWalk(walkOfPeak(whole[j]))
-				whole[j] = impl.Peak{Top: []int64{-8888}, At: -7777}
-			}
+		overwritePeaks(roots)
+		if !equalWalks(walkOfPeaks(peaks), kept[0]) {
+			t.Fatalf("PeaksOf and RootPeaks share memory: sample %d", i)
 		}
+		overwritePeaks(peaks)
 		again, does := impl.PeaksOf(x.sys)
 		if is != does || !equalWalks(walkOfPeaks(again), kept[0]) || !equalWalks(walkOfPeaks(impl.RootPeaks(x.sys)), kept[1]) {
 			t.Fatalf("a list was kept: sample %d", i)
@@ -145,8 +149,10 @@ func TestListsOfPeaksAreNew(t *testing.T) {
 	}
 }
 
-// All terms of the arguments are one slice, or parts of one.
-func TestPeaksOfOneSlice(t *testing.T) {
+// checkPeaksOfOneSlice checks that all terms of the arguments may be one slice, or
+// parts of one.
+func checkPeaksOfOneSlice(t *testing.T, calls []stepCall) {
+	t.Helper()
 	for _, nums := range [][]int64{{1, 2}, {1, 1, -1}, {0, -1, -1}, nested(60)} {
 		g := guardOf(nums)
 		part := g.nums[len(nums)-1:]
@@ -157,7 +163,7 @@ func TestPeaksOfOneSlice(t *testing.T) {
 			for _, sides := range [][2][]int64{{g.nums, g.nums}, {part, g.nums}, {g.nums, part}, {part, part}} {
 				w := walkOfPeak(impl.Peak{Top: g.nums, Left: sides[0], Right: sides[1], Under: 1})
 				x := stepArgs{sys: sys, t: g.nums, fuel: 1, w: w, v: w, s: substOf(g.nums, part)}
-				for _, c := range peakCalls() {
+				for _, c := range calls {
 					want := cloneWalk(c.run(x))
 					checkSlicesApart(t, c, x)
 					overwriteWalk(c.run(x))
@@ -169,6 +175,8 @@ func TestPeaksOfOneSlice(t *testing.T) {
 		}
 	}
 }
+
+func TestPeaksOfOneSlice(t *testing.T) { checkPeaksOfOneSlice(t, peakCalls()) }
 
 // A result that was kept for the memory of an argument would be wrong for what
 // that memory holds later.

@@ -131,27 +131,33 @@ func TestOrientsOfSomeBooks(t *testing.T) {
 	}
 }
 
-// oriented returns a book that both orders or one of them accept: rules whose right
-// side is made of parts of the left one.
+// oriented returns a book that both orders or one of them accept.
 func (m maker) oriented() (book, []int64) {
-	b := book{sig: m.book().sig}
-	rank := m.rank(b.sig)
+	sig := m.book().sig
+	rank := m.rank(sig)
 	rows, bags := contestOf(rank, false), contestOf(rank, true)
+	return m.orientedBy(sig, func(x, y tree) bool { return rows.less(x, y) || bags.less(x, y) }), rank
+}
+
+// orientedBy returns a book of rules whose right side is made of parts of the left one
+// and less than it.
+func (m maker) orientedBy(sig impl.Sig, less func(x, y tree) bool) book {
+	b := book{sig: sig}
 	for range 60 {
-		l := m.tree(b.sig, 2+m.Int64N(9))
-		if x := (ruling{l, m.gathered(b.sig, l)}); x.isRule() && x.r.size() <= 20 && (rows.less(x.r, x.l) || bags.less(x.r, x.l)) {
+		l := m.tree(sig, 2+m.Int64N(9))
+		if x := (ruling{l, m.gathered(sig, l)}); x.isRule() && x.r.size() <= 20 && less(x.r, x.l) {
 			b.list = append(b.list, x)
 		}
 	}
-	return book{b.sig, b.list[:min(len(b.list), 1+m.IntN(impl.MaxRules))]}, rank
+	return book{sig, b.list[:min(len(b.list), 1+m.IntN(impl.MaxRules))]}
 }
 
 // checkDescent checks that along each step from a term the term becomes less in the
 // orders that orient the system, and returns how many steps there were.
-func checkDescent(t *testing.T, sys impl.System, rank, nums []int64) int {
+func checkDescent(t *testing.T, orders []termOrder, sys impl.System, rank, nums []int64) int {
 	t.Helper()
 	checked := 0
-	for _, o := range pathOrders() {
+	for _, o := range orders {
 		if !o.orients(sys, rank) {
 			continue
 		}
@@ -165,12 +171,27 @@ func checkDescent(t *testing.T, sys impl.System, rank, nums []int64) int {
 	return checked
 }
 
+// checkLongDescent does so for a long term and those that come of it one after the other.
+func checkLongDescent(t *testing.T, m maker, orders []termOrder, b book, rank []int64) int {
+	t.Helper()
+	checked, x := 0, m.bed(b, 2+m.Int64N(40))
+	for x.size() <= impl.MaxTerm {
+		checked += checkDescent(t, orders, b.system(), rank, x.notation())
+		moves := b.moves(x)
+		if len(moves) == 0 {
+			break
+		}
+		x = moves[m.IntN(len(moves))].to
+	}
+	return checked
+}
+
 func TestStepsMakeTermsLess(t *testing.T) {
 	checked := 0
 	for _, rank := range ranksOf(3) {
 		for _, b := range booksOf(abc(), someRulings(), 2) {
 			for _, x := range smallTrees([]int64{-1, -24}, 4) {
-				checked += checkDescent(t, b.system(), rank, x.notation())
+				checked += checkDescent(t, pathOrders(), b.system(), rank, x.notation())
 			}
 		}
 	}
@@ -192,15 +213,7 @@ func TestStepsMakeLongTermsLess(t *testing.T) {
 		if len(b.list) == 0 {
 			continue
 		}
-		x := m.bed(b, 2+m.Int64N(40))
-		for x.size() <= impl.MaxTerm {
-			checked += checkDescent(t, b.system(), rank, x.notation())
-			moves := b.moves(x)
-			if len(moves) == 0 {
-				break
-			}
-			x = moves[m.IntN(len(moves))].to
-		}
+		checked += checkLongDescent(t, m, pathOrders(), b, rank)
 	}
 	if checked < 5000 || books < 150 {
 		t.Error("too few of the steps test much", checked, books)

@@ -7,30 +7,29 @@ import (
 	"loop.example/g00895/impl"
 )
 
-// A pathOrder is one of the two orders with the function that tells whether it
-// orients all rules.
-type pathOrder struct {
+// A termOrder is an order of terms by a precedence, with the function that tells whether
+// it orients all rules.
+type termOrder struct {
 	name    string
-	bags    bool
 	less    func(sig impl.Sig, rank, s, t []int64) bool
 	orients func(sys impl.System, rank []int64) bool
 }
 
-func pathOrders() []pathOrder {
-	return []pathOrder{
-		{"LpoLess", false, impl.LpoLess, impl.OrientsAll},
-		{"MpoLess", true, impl.MpoLess, impl.OrientsBags},
+func pathOrders() []termOrder {
+	return []termOrder{
+		{"LpoLess", impl.LpoLess, impl.OrientsAll},
+		{"MpoLess", impl.MpoLess, impl.OrientsBags},
 	}
 }
 
 // table tells for each two of the trees whether the second one is greater.
-func (o pathOrder) table(a arena) [][]bool {
+func (o termOrder) table(a arena) [][]bool {
 	return tableOf(a.trees, a.trees, func(x, y tree) bool { return o.less(a.sig, a.rank, x.notation(), y.notation()) })
 }
 
-// checkLaws checks that no tree is less than itself, that what is less than a lesser
-// one is less, and that every subterm is less. It returns how many triples there were.
-func (o pathOrder) checkLaws(t *testing.T, a arena) int {
+// checkLaws checks that no tree is less than itself, and that what is less than a lesser
+// one is less. It returns how many triples there were.
+func (o termOrder) checkLaws(t *testing.T, a arena) int {
 	t.Helper()
 	less, triples := o.table(a), 0
 	for x := range a.trees {
@@ -63,22 +62,26 @@ func TestPathOrdersAreOrders(t *testing.T) {
 	}
 }
 
-// Of long terms too, and of many of them that are alike.
+// longArena returns long trees of which many are alike.
+func (m maker) longArena(sig impl.Sig, rank []int64) arena {
+	a := arena{sig: sig, trees: []tree{m.tree(sig, 40)}, rank: rank}
+	for len(a.trees) < 25 {
+		x := a.trees[m.IntN(len(a.trees))]
+		y := x.put(m.spot(x).path, m.gathered(a.sig, x))
+		if y.size() <= impl.MaxTerm {
+			a.trees = append(a.trees, y)
+		}
+	}
+	return a
+}
+
 func TestPathOrdersOfLongTermsAreOrders(t *testing.T) {
 	m := makerOf(61)
 	for _, o := range pathOrders() {
 		triples := 0
 		for range 20 {
-			a := arena{sig: m.book().sig}
-			a.rank, a.trees = m.rank(a.sig), []tree{m.tree(a.sig, 40)}
-			for len(a.trees) < 25 {
-				x := a.trees[m.IntN(len(a.trees))]
-				y := x.put(m.spot(x).path, m.gathered(a.sig, x))
-				if y.size() <= impl.MaxTerm {
-					a.trees = append(a.trees, y)
-				}
-			}
-			triples += o.checkLaws(t, a)
+			sig := m.book().sig
+			triples += o.checkLaws(t, m.longArena(sig, m.rank(sig)))
 		}
 		if triples < 5000 {
 			t.Error("too few of the triples test much", o.name, triples)
@@ -86,28 +89,41 @@ func TestPathOrdersOfLongTermsAreOrders(t *testing.T) {
 	}
 }
 
-func TestSubtermsAreLess(t *testing.T) {
-	m := makerOf(62)
-	check := func(a arena) {
-		for _, x := range a.trees {
-			for _, s := range x.spots() {
-				for _, o := range pathOrders() {
-					if got := o.less(a.sig, a.rank, s.sub.notation(), x.notation()); got != (s.at > 0) {
-						t.Fatal(o.name, a.sig, a.rank, s.at, x.notation())
-					}
-				}
+// checkSubtermsAreLess checks that each of the trees is greater than its subterms.
+func (o termOrder) checkSubtermsAreLess(t *testing.T, a arena) {
+	t.Helper()
+	for _, x := range a.trees {
+		for _, s := range x.spots() {
+			if got := o.less(a.sig, a.rank, s.sub.notation(), x.notation()); got != (s.at > 0) {
+				t.Fatal(o.name, a.sig, a.rank, s.at, x.notation())
 			}
 		}
 	}
-	for _, a := range arenas([]int64{-1, -2}, 4) {
-		check(a)
+}
+
+func TestSubtermsAreLess(t *testing.T) {
+	m := makerOf(62)
+	for _, o := range pathOrders() {
+		for _, a := range arenas([]int64{-1, -2}, 4) {
+			o.checkSubtermsAreLess(t, a)
+		}
+		for _, rank := range ranksOf(3) {
+			o.checkSubtermsAreLess(t, arena{abc(), deepTrees(), rank})
+		}
+		for range 100 {
+			b := m.book()
+			o.checkSubtermsAreLess(t, arena{b.sig, []tree{m.tree(b.sig, 2+m.Int64N(59))}, m.rank(b.sig)})
+		}
 	}
-	for _, rank := range ranksOf(3) {
-		check(arena{abc(), deepTrees(), rank})
-	}
-	for range 100 {
-		b := m.book()
-		check(arena{b.sig, []tree{m.tree(b.sig, 2+m.Int64N(59))}, m.rank(b.sig)})
+}
+
+// checkOneIsLess checks that of two trees without variables exactly one is less, or none
+// if they are the same.
+func (o termOrder) checkOneIsLess(t *testing.T, sig impl.Sig, rank []int64, x, y tree) {
+	t.Helper()
+	less, more := o.less(sig, rank, x.notation(), y.notation()), o.less(sig, rank, y.notation(), x.notation())
+	if less && more || (less || more) == x.isSame(y) {
+		t.Fatal(o.name, sig, rank, x.notation(), y.notation(), less, more)
 	}
 }
 
@@ -116,10 +132,7 @@ func TestSubtermsAreLess(t *testing.T) {
 func TestLpoIsTotalWithoutVariables(t *testing.T) {
 	pairs := 0
 	check := func(sig impl.Sig, rank []int64, x, y tree) {
-		less, more := impl.LpoLess(sig, rank, x.notation(), y.notation()), impl.LpoLess(sig, rank, y.notation(), x.notation())
-		if isOne := less != more; isOne == x.isSame(y) {
-			t.Fatal(sig, rank, x.notation(), y.notation(), less, more)
-		}
+		pathOrders()[0].checkOneIsLess(t, sig, rank, x, y)
 		if got := impl.LpoCompare(sig, rank, x.notation(), y.notation()); got == 2 || got == 0 != x.isSame(y) {
 			t.Fatal(sig, rank, x.notation(), y.notation(), got)
 		}
@@ -149,7 +162,7 @@ func TestLpoIsTotalWithoutVariables(t *testing.T) {
 
 // checkFilled checks that less stays less under a filling. It leaves out what would be
 // too long for a term, and reports whether it did not.
-func (o pathOrder) checkFilled(t *testing.T, a arena, x, y tree, f filling) bool {
+func (o termOrder) checkFilled(t *testing.T, a arena, x, y tree, f filling) bool {
 	t.Helper()
 	less, is := impl.Filled(a.sig, f.subst(0), x.notation())
 	more, are := impl.Filled(a.sig, f.subst(0), y.notation())
@@ -160,7 +173,7 @@ func (o pathOrder) checkFilled(t *testing.T, a arena, x, y tree, f filling) bool
 }
 
 // checkInContexts checks that less stays less at every position of a term.
-func (o pathOrder) checkInContexts(t *testing.T, a arena, x, y, around tree) int {
+func (o termOrder) checkInContexts(t *testing.T, a arena, x, y, around tree) int {
 	t.Helper()
 	checked := 0
 	for _, s := range around.spots() {
@@ -177,32 +190,61 @@ func (o pathOrder) checkInContexts(t *testing.T, a arena, x, y, around tree) int
 	return checked
 }
 
-// P13 for all pairs of small terms: under many substitutions, also such as make
-// different variables the same, and inside small terms.
+// closures counts the pairs of which a test checked that less stays less.
+type closures struct{ filled, inside int }
+
+// checkClosed checks that less stays less for all pairs of the trees: under some
+// fillings, also such as make different variables the same, and inside one of the trees.
+func (n *closures) checkClosed(t *testing.T, m maker, o termOrder, a arena) {
+	t.Helper()
+	less := o.table(a)
+	for i, x := range a.trees {
+		for j, y := range a.trees {
+			if !less[i][j] {
+				continue
+			}
+			for range 3 {
+				f := filling{0: a.trees[m.IntN(len(a.trees))], 1: a.trees[m.IntN(len(a.trees))]}
+				if o.checkFilled(t, a, x, y, f) {
+					n.filled++
+				}
+			}
+			o.checkFilled(t, a, x, y, filling{0: variable(1)})
+			n.inside += o.checkInContexts(t, a, x, y, a.trees[m.IntN(len(a.trees))])
+		}
+	}
+}
+
+// P13 for all pairs of small terms.
 func TestPathOrdersAreClosed(t *testing.T) {
 	m := makerOf(64)
 	for _, o := range pathOrders() {
-		filled, inside := 0, 0
+		var n closures
 		for _, a := range arenas([]int64{-1, -2}, 4) {
-			less := o.table(a)
-			for i, x := range a.trees {
-				for j, y := range a.trees {
-					if !less[i][j] {
-						continue
-					}
-					for range 3 {
-						f := filling{0: a.trees[m.IntN(len(a.trees))], 1: a.trees[m.IntN(len(a.trees))]}
-						if o.checkFilled(t, a, x, y, f) {
-							filled++
-						}
-					}
-					o.checkFilled(t, a, x, y, filling{0: variable(1)})
-					inside += o.checkInContexts(t, a, x, y, a.trees[m.IntN(len(a.trees))])
-				}
-			}
+			n.checkClosed(t, m, o, a)
 		}
-		if filled < 80000 || inside < 80000 {
-			t.Error("too few of the pairs test much", o.name, filled, inside)
+		if n.filled < 80000 || n.inside < 80000 {
+			t.Error("too few of the pairs test much", o.name, n)
+		}
+	}
+}
+
+// checkClosedEverywhere checks that less stays less under every one of the fillings and
+// inside every one of the trees.
+func (o termOrder) checkClosedEverywhere(t *testing.T, a arena, fillings []filling) {
+	t.Helper()
+	less := o.table(a)
+	for i, x := range a.trees {
+		for j, y := range a.trees {
+			if !less[i][j] {
+				continue
+			}
+			for _, f := range fillings {
+				o.checkFilled(t, a, x, y, f)
+			}
+			for _, around := range a.trees {
+				o.checkInContexts(t, a, x, y, around)
+			}
 		}
 	}
 }
@@ -214,58 +256,49 @@ func TestPathOrdersAreClosedEverywhere(t *testing.T) {
 	fillings := fillingsOf([]int64{0, 1}, images[:9])
 	for _, o := range pathOrders() {
 		for _, rank := range ranksOf(3) {
-			a := arena{abc(), images, rank}
-			less := o.table(a)
-			for i, x := range images {
-				for j, y := range images {
-					if !less[i][j] {
-						continue
-					}
-					for _, f := range fillings {
-						o.checkFilled(t, a, x, y, f)
-					}
-					for _, around := range images {
-						o.checkInContexts(t, a, x, y, around)
-					}
-				}
-			}
+			o.checkClosedEverywhere(t, arena{abc(), images, rank}, fillings)
 		}
 	}
+}
+
+// checkLongClosed checks that less stays less for two long trees that are much alike.
+func (n *closures) checkLongClosed(t *testing.T, m maker, o termOrder, a arena) {
+	t.Helper()
+	x := m.tree(a.sig, 2+m.Int64N(40))
+	y := m.gathered(a.sig, x)
+	if m.IntN(2) == 0 {
+		x = m.gathered(a.sig, x)
+	}
+	if max(x.size(), y.size()) > impl.MaxTerm {
+		return
+	}
+	if !o.less(a.sig, a.rank, x.notation(), y.notation()) {
+		x, y = y, x
+	}
+	if !o.less(a.sig, a.rank, x.notation(), y.notation()) {
+		return
+	}
+	f := filling{}
+	for _, i := range y.varSet() {
+		f[i] = m.tree(a.sig, 2+m.Int64N(6))
+	}
+	if o.checkFilled(t, a, x, y, f) {
+		n.filled++
+	}
+	n.inside += o.checkInContexts(t, a, x, y, m.tree(a.sig, 2+m.Int64N(20)))
 }
 
 // P13 for long terms, up to MaxTerm numbers.
 func TestPathOrdersOfLongTermsAreClosed(t *testing.T) {
 	m := makerOf(65)
 	for _, o := range pathOrders() {
-		filled, inside := 0, 0
+		var n closures
 		for range 1500 {
 			sig := m.book().sig
-			a := arena{sig: sig, rank: m.rank(sig)}
-			x := m.tree(sig, 2+m.Int64N(40))
-			y := m.gathered(sig, x)
-			if m.IntN(2) == 0 {
-				x = m.gathered(sig, x)
-			}
-			if max(x.size(), y.size()) > impl.MaxTerm {
-				continue
-			}
-			if !o.less(sig, a.rank, x.notation(), y.notation()) {
-				x, y = y, x
-			}
-			if !o.less(sig, a.rank, x.notation(), y.notation()) {
-				continue
-			}
-			f := filling{}
-			for _, i := range y.varSet() {
-				f[i] = m.tree(sig, 2+m.Int64N(6))
-			}
-			if o.checkFilled(t, a, x, y, f) {
-				filled++
-			}
-			inside += o.checkInContexts(t, a, x, y, m.tree(sig, 2+m.Int64N(20)))
+			n.checkLongClosed(t, m, o, arena{sig: sig, rank: m.rank(sig)})
 		}
-		if filled < 100 || inside < 1000 {
-			t.Error("too few of the pairs test much", o.name, filled, inside)
+		if n.filled < 100 || n.inside < 1000 {
+			t.Error("too few of the pairs test much", o.name, n)
 		}
 	}
 }

@@ -6,19 +6,25 @@ import (
 	"loop.example/g00895/impl"
 )
 
-// An orderCall is a function of chapter 13 on the arguments that the tests vary: two
-// terms, a list of terms or a system. Its result is given as a number.
+// An orderCall is a function of the document on the arguments that the tests of orders
+// vary: two terms, a list of terms or a system. Its result is given as a number.
 type orderCall struct {
 	name string
 	run  func(x orderArgs) int64
 }
 
-// The arguments of an orderCall, valid or not.
+// The arguments of an orderCall, valid or not. The path orders take no weights.
 type orderArgs struct {
-	sys  impl.System
-	rank []int64
-	a, b []int64
-	ts   [][]int64
+	sys   impl.System
+	rank  []int64
+	a, b  []int64
+	ts    [][]int64
+	ofVar int64
+	sym   []int64
+}
+
+func (x orderArgs) weights() impl.Weights {
+	return impl.Weights{Var: x.ofVar, Sym: x.sym, Rank: x.rank}
 }
 
 func numberOf(is bool) int64 {
@@ -48,33 +54,35 @@ func orderSamples() []orderArgs {
 		b, rank := m.oriented()
 		x := m.tree(b.sig, 2+m.Int64N(40))
 		y := m.gathered(b.sig, x)
-		found = append(found, orderArgs{b.system(), rank, x.notation(), y.notation(), [][]int64{x.notation(), y.notation(), {-1}}})
+		found = append(found, orderArgs{sys: b.system(), rank: rank, a: x.notation(), b: y.notation(), ts: [][]int64{x.notation(), y.notation(), {-1}}})
 	}
 	deep := deepTrees()
 	for i, rank := range append(ranksOf(3), nil, []int64{0, 0, 1}, []int64{0, 1}) {
 		for j, x := range deep {
 			y := deep[(i+j*2)%len(deep)]
-			found = append(found, orderArgs{sums(), rank, x.notation(), y.notation(), [][]int64{x.notation(), y.notation(), {0}, {2}}[:2+j%3]})
+			found = append(found, orderArgs{sys: sums(), rank: rank, a: x.notation(), b: y.notation(), ts: [][]int64{x.notation(), y.notation(), {0}, {2}}[:2+j%3]})
 		}
 	}
 	for _, sys := range someSystems() {
 		rank := everyPlace(int64(len(sys.Sig.Arity)))
 		for _, r := range sys.Rules {
-			found = append(found, orderArgs{sys, rank, r.R, r.L, [][]int64{r.R, r.L, r.R}})
+			found = append(found, orderArgs{sys: sys, rank: rank, a: r.R, b: r.L, ts: [][]int64{r.R, r.L, r.R}})
 		}
 	}
 	return found
 }
 
-// No function modifies an argument, nor what is behind its length.
-func TestOrderArgumentsAreNotModified(t *testing.T) {
+// checkOrderArgumentsAreKept checks that no function modifies an argument, nor what is
+// behind its length, and that the samples lead to different results of each.
+func checkOrderArgumentsAreKept(t *testing.T, calls []orderCall, samples []orderArgs) {
+	t.Helper()
 	seen := map[string]map[int64]bool{}
-	for i, x := range orderSamples() {
-		for _, c := range orderCalls() {
+	for i, x := range samples {
+		for _, c := range calls {
 			sys, list := systemGuardOf(x.sys), substGuardOf(substOf(x.ts...))
-			rank, a, b := guardOf(x.rank), guardOf(x.a), guardOf(x.b)
-			got := c.run(orderArgs{sys.sys, rank.nums, a.nums, b.nums, list.s.Terms})
-			if sys.touched() || list.touched() || rank.touched() || a.touched() || b.touched() {
+			rank, a, b, sym := guardOf(x.rank), guardOf(x.a), guardOf(x.b), guardOf(x.sym)
+			got := c.run(orderArgs{sys.sys, rank.nums, a.nums, b.nums, list.s.Terms, x.ofVar, sym.nums})
+			if sys.touched() || list.touched() || rank.touched() || a.touched() || b.touched() || sym.touched() {
 				t.Fatalf("%s modifies an argument: sample %d", c.name, i)
 			}
 			if want := c.run(x); got != want {
@@ -93,6 +101,10 @@ func TestOrderArgumentsAreNotModified(t *testing.T) {
 	}
 }
 
+func TestOrderArgumentsAreNotModified(t *testing.T) {
+	checkOrderArgumentsAreKept(t, orderCalls(), orderSamples())
+}
+
 // One slice may be several arguments: the rank the arities, the terms each other or
 // parts of each other.
 func TestOrderArgumentsOfOneSlice(t *testing.T) {
@@ -102,10 +114,10 @@ func TestOrderArgumentsOfOneSlice(t *testing.T) {
 				rank, g := guardOf(falling()), guardOf(nums)
 				part := g.nums[at:impl.EndOf(abc(), nums, at)]
 				sys := impl.System{Sig: impl.Sig{Arity: rank.nums}, Rules: []impl.Rule{{L: g.nums, R: part}, {L: part, R: part}}}
-				got := c.run(orderArgs{sys, rank.nums, part, g.nums, [][]int64{part, g.nums, part}})
+				got := c.run(orderArgs{sys: sys, rank: rank.nums, a: part, b: g.nums, ts: [][]int64{part, g.nums, part}})
 				clone := nums[at:impl.EndOf(abc(), nums, at)]
 				sys = impl.System{Sig: abc(), Rules: []impl.Rule{{L: nums, R: clone}, {L: clone, R: clone}}}
-				want := c.run(orderArgs{sys, falling(), clone, nums, [][]int64{clone, nums, clone}})
+				want := c.run(orderArgs{sys: sys, rank: falling(), a: clone, b: nums, ts: [][]int64{clone, nums, clone}})
 				if got != want || rank.touched() || g.touched() {
 					t.Fatal(c.name, nums, at, got, want)
 				}
